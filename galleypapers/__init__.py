@@ -1,0 +1,1 @@
+"""Galleypapers: from marked text to pages, with papers of least costs."""
