@@ -12,22 +12,26 @@ _MOST_AT_END = 9
 def check_hyphens(hyphens):
     """Raise HyphenError for the first fault of hyphens, if they have one."""
     patterns, exceptions, left, right = hyphens[1:]
-    seen = {}
-    for at, text in enumerate(patterns):
-        signs = _pattern(text)[0]
-        if signs == "" or signs in seen:
-            raise HyphenError("pattern", at)
-        seen[signs] = True
-    seen = {}
-    for at, text in enumerate(exceptions):
-        letters = _divided_word(text)[0]
-        if letters == "" or letters in seen:
-            raise HyphenError("exception", at)
-        seen[letters] = True
+    at = _first_wrong([_pattern(text)[0] for text in patterns])
+    if at is not None:
+        raise HyphenError("pattern", at)
+    at = _first_wrong([_divided_word(text)[0] for text in exceptions])
+    if at is not None:
+        raise HyphenError("exception", at)
     if not _LEAST_AT_END <= left <= _MOST_AT_END:
         raise HyphenError("left", 0)
     if not _LEAST_AT_END <= right <= _MOST_AT_END:
         raise HyphenError("right", 0)
+
+
+def _first_wrong(keys):
+    """Return the index of the first key that is empty or there before, or None."""
+    seen = {}
+    for at, key in enumerate(keys):
+        if key == "" or key in seen:
+            return at
+        seen[key] = True
+    return None
 
 
 def _pattern(text):
