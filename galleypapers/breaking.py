@@ -41,9 +41,9 @@ class Paragraph:
         self.starts = [len(items)] * (len(items) + 1)
         self.stops = [self.last] * (len(items) + 1)
         for at in range(self.last, -1, -1):
-            must_end = _must_end(items[at])
-            self.starts[at] = at if must_end or items[at][0] == "box" else self.starts[at + 1]
-            self.stops[at] = at if must_end else self.stops[at + 1]
+            forced = must_end(items[at])
+            self.starts[at] = at if forced or items[at][0] == "box" else self.starts[at + 1]
+            self.stops[at] = at if forced else self.stops[at + 1]
 
     def line_between(self, before, at):
         """Return the class and the cost of a line, a clash aside, or None if it is not feasible."""
@@ -99,7 +99,8 @@ class Paragraph:
         return cost
 
 
-def _must_end(item):
+def must_end(item):
+    """Tell whether a line must end at an item."""
     return item[0] == "penalty" and item[2] == _ALWAYS
 
 
