@@ -15,7 +15,7 @@ def check_font(font):
     if not is_name(name):
         raise FontError(name)
     for glyph in sorted(glyphs):
-        if not _is_glyph(glyphs, glyph) or not _sizes_fit(glyphs[glyph]):
+        if not _can_be_set(glyphs, glyph) or not _sizes_fit(glyphs[glyph]):
             raise FontError(glyph)
     if SOFT not in glyphs:
         raise FontError(SOFT)
@@ -24,16 +24,18 @@ def check_font(font):
             raise FontError(pair)
 
 
-def _is_glyph(glyphs, glyph):
+def is_glyph(text):
+    """Tell whether a text is a glyph: a character, a ligature or SOFT."""
+    if text == SOFT:
+        return True
+    return 1 <= len(text) <= _LONGEST_GLYPH and all([is_visible(sign) for sign in text])
+
+
+def _can_be_set(glyphs, glyph):
     """Tell whether a key is a glyph, and a ligature has all its beginnings."""
     if glyph == SOFT:
         return True
-    if not 1 <= len(glyph) <= _LONGEST_GLYPH:
-        return False
-    for at, sign in enumerate(glyph):
-        if not is_visible(sign) or glyph[:at + 1] not in glyphs:
-            return False
-    return True
+    return is_glyph(glyph) and all([glyph[:size] in glyphs for size in range(1, len(glyph))])
 
 
 def _sizes_fit(sizes):

@@ -253,6 +253,5 @@ def _pages_are_told(sheets, told, position, placed):
 def accepted(matter, pages, rows):
     """Tell whether pages are right and a right paper shows that none cost less."""
     cost = total_cost(matter, pages)
-    if cost is None or not paper_right(matter, rows):
-        return False
-    return (len(matter[1]), len(matter[3]), cost) in rows
+    end = (len(matter[1]), len(matter[3]), cost)
+    return cost is not None and end in rows and paper_right(matter, rows)

@@ -78,3 +78,8 @@ def set_line(items, before, at, measure):
     height = max([box[2] for box in boxes], default=0)
     depth = max([box[3] for box in boxes], default=0)
     return "set", rows, place, height, depth, notes
+
+
+def set_lines(items, breaks, measure):
+    """Return the lines of items with breaks, each set to a measure."""
+    return [set_line(items, before, at, measure) for before, at in zip([-1, *breaks], breaks)]

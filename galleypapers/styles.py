@@ -109,6 +109,12 @@ def _hyphens_fit(hyphens):
     return True
 
 
+def line_costs(style):
+    """Return the costs of a style for breaking lines: for each line, for two flagged breaks, and for a clash."""
+    penalties = style[8]
+    return penalties["line"], penalties["double"], penalties["fitness"]
+
+
 def default_style():
     """Return a style without a fault, for pages of 360 by 600 points."""
     fonts = {

@@ -113,6 +113,11 @@ class TestLanguage(unittest.TestCase):
             if isinstance(node, ast.Attribute) and isinstance(node.ctx, ast.Store):
                 self.assertNotIn(node.attr, barred, (path, node.lineno))
 
+    def test_names_of_classes(self):
+        for path, node in nodes():
+            if isinstance(node, ast.ClassDef):
+                self.assertRegex(node.name, "^[A-Z]", path)
+
     def test_strings(self):
         for path, node in nodes():
             if isinstance(node, ast.Constant):

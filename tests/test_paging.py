@@ -67,7 +67,7 @@ def some_rows(chance):
         its_notes = tuple(range(len(notes), len(notes) + chance.choice([0, 0, 0, 1, 2])))
         notes += [chance.randint(0, 5) for _ in its_notes]
         rows.append(line(chance.randint(0, 6), its_notes, chance.randint(0, 2)))
-    rows += [("float", None) for _ in range(chance.choice([0, 0, 1, 2]))]
+    rows += [chance.choice([("float", None), ("float", None), gap(3, 2, 1)]) for _ in range(chance.choice([0, 0, 1, 2]))]
     for at, row in enumerate(rows):
         if row[0] == "float":
             rows[at] = ("float", len(floats))
@@ -265,6 +265,10 @@ class TestHeights(unittest.TestCase):
     def test_pages_of_floats_end_at_the_end(self):
         rows = [line(), ("float", 0)]
         self.assertEqual(cost(matter(rows, [], [3], height=20, late=0), (0, 2), (2, 2, 0)), 0)
+        # A gap behind the last line is on no page.
+        self.assertEqual(cost(matter([*rows, gap(9, 9, 9)], [], [3], height=8, late=0), (0, 3), (3, 3, 0)), None)
+        self.assertEqual(cost(matter([*rows, gap(9, 9, 9)], [], [3], height=10, late=0), (0, 3), (3, 3, 0)), 0)
+        self.assertEqual(cost(matter([*rows, gap(9, 9, 9)], [], [20], height=20, late=0), (0, 3), (3, 3, 0)), None)
         its_matter = matter(rows, [], [19], height=20, late=0, float_gap=(5, 0, 5))
         self.assertEqual(cost(its_matter, (0, 2), (2, 2, 0)), 51)
         its_matter = matter(rows, [], [21], height=20, late=0, float_gap=(5, 0, 5))

@@ -3,7 +3,7 @@
 import random
 import unittest
 
-from galleypapers.setting import glue_widths, moved, natural, set_line, shares
+from galleypapers.setting import glue_widths, moved, natural, set_line, set_lines, shares
 from tests.helper import call, may_end
 
 END = ("penalty", 0, -10000, False, [])
@@ -247,6 +247,13 @@ class TestSetLine(unittest.TestCase):
 
     def test_moved(self):
         self.assertEqual(call(self, moved, [(3, "text", ["a"]), (-1, "note", [])], 4), [(7, "text", ["a"]), (3, "note", [])])
+
+    def test_lines_between_breaks(self):
+        items = [box(4), ("glue", 3, 2, 1), box(5), pen(6, 50, [(0, "text", [SOFT])]), ("glue", 3, 2, 1), box(1), END]
+        self.assertEqual(
+            call(self, set_lines, items, [1, 3, 6], 12),
+            [set_line(items, -1, 1, 12), set_line(items, 1, 3, 12), set_line(items, 3, 6, 12)])
+        self.assertEqual(set_lines(items, [6], 12), [set_line(items, -1, 6, 12)])
 
 
 if __name__ == "__main__":

@@ -9,7 +9,7 @@ from galleypapers.errors import StyleError
 from galleypapers.fonts import SOFT, check_font, shape, width
 from galleypapers.hyphens import check_hyphens
 from galleypapers.items import items_of
-from galleypapers.styles import check_style, default_style
+from galleypapers.styles import check_style, default_style, line_costs
 from tests.helper import call, fault
 
 PARTS = ["fonts", "measure", "height", "leading", "indent", "space", "tolerance", "penalties", "gaps", "limits",
@@ -136,6 +136,15 @@ class TestCheck(unittest.TestCase):
             self.bad(part, **{later: WRONG[later] for later in PARTS[at:]})
         # An indent that is too great for a measure with a fault is not the first fault.
         self.bad("measure", measure=-5, indent=0)
+
+
+class TestLineCosts(unittest.TestCase):
+    """Which penalties are the costs of point 7.6, as points 15.1 and 17.3 say."""
+
+    def test_line_costs(self):
+        penalties = {name: at for at, name in enumerate(PENALTIES)}
+        told = call(self, line_costs, style(penalties=penalties))
+        self.assertEqual(told, (penalties["line"], penalties["double"], penalties["fitness"]))
 
 
 class TestDefault(unittest.TestCase):
