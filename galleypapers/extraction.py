@@ -3,7 +3,7 @@
 from galleypapers.fonts import SOFT, text_of, width
 
 
-def _lines(page, uses):
+def lines_of(page, uses):
     """Return the lines of a page for some uses, each a list of rows."""
     at_baseline = {}
     for row in page[2]:
@@ -29,7 +29,7 @@ def words(pages, fonts, uses):
     found = []
     is_open = False
     for page in pages:
-        for line in _lines(page, uses):
+        for line in lines_of(page, uses):
             of_line = _words_of_line(line, fonts)
             if is_open:
                 found[-1] += of_line.pop(0)
@@ -42,6 +42,6 @@ def heads(pages, fonts, uses):
     """Return the number of the page, the use of the first row, and the words of each line for some uses."""
     found = []
     for page in pages:
-        for line in _lines(page, uses):
+        for line in lines_of(page, uses):
             found.append((page[1], line[0][2], " ".join(_words_of_line(line, fonts))))
     return found

@@ -81,7 +81,7 @@ class Layout:
         self.table = table
         self.flow = flow_of(style)
         self.made = [one for one in ones if one is not None]
-        self.notes = [_stack(self.flow, one.lines) for one in notes]
+        self.notes = [stack_of(self.flow, one.lines) for one in notes]
         self.floats = [float_stack(self.flow, one) for one in self.made if one.source[0] == "float"]
         self.blocks = [_block(one) for one in ones]
         heights = [[stack_height(stack) for stack in stacks] for stacks in (self.notes, self.floats)]
@@ -119,7 +119,7 @@ def _stack_row(line):
     return ("row", height, depth, rows)
 
 
-def _stack(flow, lines):
+def stack_of(flow, lines):
     """Return the stack of set lines."""
     stack = []
     for at, line in enumerate(lines):
@@ -131,7 +131,7 @@ def _stack(flow, lines):
 
 def float_stack(flow, one):
     """Return the stack of what is made of the source of a float."""
-    return [("gap", one.source[5], 0, 0), *_stack(flow, one.lines)]
+    return [("gap", one.source[5], 0, 0), *stack_of(flow, one.lines)]
 
 
 def stack_height(stack):

@@ -5,20 +5,20 @@ from galleypapers.hyphens import Divider
 
 _NEVER = 10000
 _ALWAYS = -10000
-_SPACE = " "
-_TIE = "~"
+SPACE = " "
+TIE = "~"
 _FILL = 10000000
 
 
 def items_of(style, runs, use, indent, first_note):
     """Return the items of runs, and the pairs of the numbers and runs of their notes."""
     divider = Divider(style[11])
-    tokens, notes = _tokens(runs, use, first_note)
+    tokens, notes = tokens_of(runs, use, first_note)
     items = [("box", indent, 0, 0, [], ())]
     begun = False
     between = ""
     for token in tokens:
-        if token in (_SPACE, _TIE):
+        if token in (SPACE, TIE):
             # Only the first one between two words counts, be there a space or a tie.
             between = between or token
         else:
@@ -41,10 +41,10 @@ def _between(style, token):
         return []
     wide, stretch, shrink = style[6]
     glue = ("glue", wide, stretch, shrink)
-    return [glue] if token == _SPACE else [_penalty(_NEVER), glue]
+    return [glue] if token == SPACE else [_penalty(_NEVER), glue]
 
 
-def _tokens(runs, use, first_note):
+def tokens_of(runs, use, first_note):
     """Return the pieces of runs, with the spaces and ties around them, and their notes.
 
     A piece is (use, text, notes). Only pieces of texts have no notes.
@@ -63,7 +63,7 @@ def _tokens(runs, use, first_note):
             marks += 1
             tokens.append(("", "", (-marks,)))
         else:
-            tokens.append(_TIE)
+            tokens.append(TIE)
     return tokens, notes
 
 
@@ -71,7 +71,7 @@ def _text_tokens(use, text):
     tokens = []
     for at, part in enumerate(text.split(" ")):
         if at > 0:
-            tokens.append(_SPACE)
+            tokens.append(SPACE)
         if part != "":
             tokens.append((use, part, ()))
     return tokens

@@ -1,10 +1,10 @@
 """Pages of the least cost, and papers of it (points 10.1 to 10.9)."""
 
 from galleypapers.errors import PageError
+from galleypapers.sheets import PageRules
 
 _NEVER = 10000
 _ALWAYS = -10000
-_WORST = 10000
 
 
 class Sheets:
@@ -21,15 +21,9 @@ class Sheets:
 
     def __init__(self, matter):
         rows, notes, floats, flow = matter[1:]
-        self.height, self.most, self.most_notes = flow[5:8]
-        self.note_gap = flow[3]["note"]
-        self.float_gap = flow[3]["float"]
-        self.late = flow[4]["late"]
+        self.rules = PageRules(floats, flow)
         self.end = len(rows)
         self.floats = len(floats)
-        self.float_heights = [0]
-        for height in floats:
-            self.float_heights.append(self.float_heights[-1] + height)
         self.set_sums(rows, notes)
         self.set_positions(rows)
         self.beginning = self.positions[0]
@@ -64,22 +58,13 @@ class Sheets:
                     self.amounts[position] = rows[position - 1][1]
 
     def body(self, first, last):
-        """Return a page without floats: where it begins and ends, its height, stretch and shrink.
-
-        It is None if the page is not allowed.
-        """
+        """Return where a page without floats ends, and its height, stretch and shrink, or None if it is not allowed."""
         start, stop = self.first_lines[first], self.line_ends[last]
         if start >= stop:
-            return first, last, 0, 0, 0
+            return last, (0, 0, 0)
         sizes = [more - old for old, more in zip(self.sums[start], self.sums[stop])]
-        height, stretch, shrink, note_heights, notes = sizes
-        if notes > 0:
-            height += note_heights + self.note_gap[0]
-            stretch += self.note_gap[1]
-            shrink += self.note_gap[2]
-        if height - shrink > self.height or note_heights > self.most_notes:
-            return None
-        return first, last, height, stretch, shrink
+        size = self.rules.with_notes(*sizes)
+        return None if size is None else (last, size)
 
     def bodies_behind(self, first):
         """Return all pages without floats that are allowed behind a position."""
@@ -105,32 +90,11 @@ class Sheets:
         Each is the position to which it leads, the number of floats placed then, and its cost.
         """
         found = []
-        for body in self.bodies_behind(first):
-            last = body[1]
-            most = max(placed, min(placed + self.most, self.ahead[last]))
-            for stop in range(placed, most + 1):
-                cost = self.cost_with(body, placed, stop)
-                # If it is too high, it is so with more floats, too.
-                if cost is None:
-                    break
+        for last, size in self.bodies_behind(first):
+            for stop, cost in self.rules.with_floats(size, placed, self.ahead[last], last == self.end):
                 if first < last or placed < stop:
-                    found.append((last, stop, cost))
+                    found.append((last, stop, cost + self.amounts[last]))
         return found
-
-    def cost_with(self, body, placed, stop):
-        """Return the cost of a page with the next floats, up to a number, or None if it is too high."""
-        _, last, height, stretch, shrink = body
-        many = stop - placed
-        height += self.float_heights[stop] - self.float_heights[placed] + many * self.float_gap[0]
-        stretch += many * self.float_gap[1]
-        shrink += many * self.float_gap[2]
-        room = self.height - height
-        if room + shrink < 0:
-            return None
-        if room > 0 and last == self.end:
-            room = 0
-        late = self.late * max(0, self.ahead[last] - stop)
-        return _badness(room, stretch, shrink) + self.amounts[last] + late
 
     def cost_of_page(self, page, first, placed):
         """Return the cost of a page, or None if it is not right behind a position and so many floats."""
@@ -157,16 +121,6 @@ def _positions(rows):
         return [len(rows)]
     behind = [at + 1 for at, row in enumerate(rows) if row[0] == "cost" and row[1] < _NEVER]
     return [0, *behind, len(rows)]
-
-
-def _badness(room, stretch, shrink):
-    if room < 0:
-        return 100 * (-room) ** 3 // shrink ** 3
-    if room == 0:
-        return 0
-    if stretch == 0:
-        return _WORST
-    return min(100 * room ** 3 // stretch ** 3, _WORST)
 
 
 def _reached(sheets):

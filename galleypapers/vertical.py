@@ -56,13 +56,13 @@ def _block_rows(at, block, flow):
     for number, line in enumerate(block[1]):
         height, depth, notes, _ = line
         if number > 0:
-            rows.append(("cost", _cost_ahead(block, number, flow)))
+            rows.append(("cost", cost_within(block, number, flow)))
             rows.append(("gap", line_gap(flow, block[1][number - 1][1], height), 0, 0))
         rows.append(("line", at, number, height, depth, notes))
     return rows
 
 
-def _cost_ahead(block, number, flow):
+def cost_within(block, number, flow):
     """Return what it costs that a page ends ahead of a line of a block, which is not its first one."""
     kind, lines = block
     costs, keep = flow[4], flow[8]
@@ -80,19 +80,21 @@ def _cost_ahead(block, number, flow):
 
 def _between_blocks(upper, lower, asked, flow):
     """Return the cost and the gap between two blocks of lines; a new page may be asked for there."""
-    height, stretch, shrink = _gap_between(upper[0], lower[0], flow[3])
+    height, stretch, shrink = gap_between(upper[0], lower[0], flow[3])
     height += line_gap(flow, upper[1][-1][1], lower[1][0][0])
-    cost = 0
+    return [("cost", cost_between(upper[0], lower[0], asked, flow)), ("gap", height, stretch, shrink)]
+
+
+def cost_between(upper, lower, asked, flow):
+    """Return what it costs that a page ends between blocks of two kinds; a new page may be asked for there."""
     if asked:
-        cost = _ALWAYS
-    elif upper[0] == "head":
-        cost = _NEVER
-    elif lower[0] == "head":
-        cost = flow[4]["head"]
-    return [("cost", cost), ("gap", height, stretch, shrink)]
+        return _ALWAYS
+    if upper == "head":
+        return _NEVER
+    return flow[4]["head"] if lower == "head" else 0
 
 
-def _gap_between(upper, lower, gaps):
+def gap_between(upper, lower, gaps):
     """Return the gap between blocks of two kinds, without the room between their lines."""
     if lower == "head":
         return gaps["above"]
