@@ -50,7 +50,7 @@ def _can_be_read(whole, style, lines, level):
     """Tell whether there is a reading of pages that keeps what has to be kept."""
     if not _floats_fit(whole, flow_of(style)[6], len(lines), level):
         return False
-    beginning = whole.blocks[0].beginning() if whole.blocks else ()
+    beginning = whole.blocks[0].first_places() if whole.blocks else ()
     states = [(0, beginning, 0, 0)]
     for at, of_page in enumerate(lines):
         reader = PageReader(whole, style, at + 1, of_page, level)
@@ -156,7 +156,7 @@ class PageReader:
             return None
         beginning = ()
         if block + 1 < len(self.whole.blocks):
-            beginning = self.whole.blocks[block + 1].beginning()
+            beginning = self.whole.blocks[block + 1].first_places()
         return (block + 1, beginning, 0, self.page), 0, notes, gap
 
     def may_begin(self, block, at):

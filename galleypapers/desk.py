@@ -79,11 +79,11 @@ class Desk:
         if failure != "":
             return [failure]
         if word == "page":
-            return self.page(int(rest))
+            return self.written_page(int(rest))
         if word == "where":
             return [self.where(rest)]
         if word == "build":
-            return [self.told()]
+            return [self.numbers_told()]
         return [self.cost() if word == "cost" else self.check()]
 
     def failure(self):
@@ -117,12 +117,12 @@ class Desk:
             self.session.edit(difference(self.session.document, document))
         self.changed = False
 
-    def told(self):
+    def numbers_told(self):
         """Tell the numbers of the pages, of the rounds, and of what was made and is the same."""
         pages, rounds = len(self.session.layout.placed), len(self.session.tables)
         return f"pages {pages} rounds {rounds} made {self.session.made} same {self.session.same}"
 
-    def page(self, number):
+    def written_page(self, number):
         """Return the lines of a page in the page language."""
         pages = self.session.layout.placed
         if not 1 <= number <= len(pages):

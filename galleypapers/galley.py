@@ -95,10 +95,8 @@ class Layout:
         stack = []
         for number in floats:
             stack.extend([*self.floats[number], ("gap", *self.flow[3]["float"])])
-        rows = self.matter[1][first:last]
         notes = []
-        lines = [place for place, row in enumerate(rows) if row[0] == "line"]
-        for row in rows[lines[0]:lines[-1] + 1] if lines else []:
+        for row in _from_line_to_line(self.matter[1][first:last]):
             if row[0] == "line":
                 stack.append(_stack_row(ones[row[1]].lines[row[2]]))
                 notes.extend(row[5])
@@ -111,6 +109,12 @@ class Layout:
         for number in sorted(notes):
             stack.extend(self.notes[number])
         return ("page", at + 1, placed(stack, self.flow[5]))
+
+
+def _from_line_to_line(rows):
+    """Return the rows from the first line to the last one."""
+    lines = [at for at, row in enumerate(rows) if row[0] == "line"]
+    return rows[lines[0]:lines[-1] + 1] if lines else []
 
 
 def _stack_row(line):

@@ -165,7 +165,7 @@ class Walk:
 
     def first_states(self, node):
         """Return the states behind the first block of a page."""
-        block, variant, line = node
+        block, _, line = node
         states = {}
         beginning = (0, 0, 0, 0, 0)
         if line > 0:

@@ -119,7 +119,7 @@ class Block:
         self.page = None
         self.mark_pages = []
 
-    def beginning(self):
+    def first_places(self):
         """Return the places at which all of its texts begin."""
         return (0,) * len(self.texts)
 
@@ -157,7 +157,7 @@ class Block:
         """
         if self.kind == "row":
             # All cells begin with the first line, and the row stands on one page.
-            return places != self.beginning() or all([told == page for told in self.mark_pages])
+            return places != self.first_places() or all([told == page for told in self.mark_pages])
         text = self.texts[0]
         first, last = places[0], later[0]
         for at, told in zip(text.marks, self.mark_pages):

@@ -20,11 +20,10 @@ def variants_of(style, made, spread):
     """Return the costs, lines and breaks of the variants of what is made of a source."""
     if not _may_vary(made):
         return [(0, made.lines, made.breaks)]
-    found = []
-    for many, cost, breaks in by_lines(made.parts, style[2], style[7], line_costs(style)):
-        if abs(many - len(made.breaks)) <= spread:
-            found.append((cost, set_lines(made.parts, breaks, style[2]), breaks))
-    return found
+    rows = by_lines(made.parts, style[2], style[7], line_costs(style))
+    _, best = min([(cost, many) for many, cost, _ in rows])
+    found = [(cost, breaks) for many, cost, breaks in rows if abs(many - best) <= spread]
+    return [(cost, set_lines(made.parts, breaks, style[2]), breaks) for cost, breaks in found]
 
 
 def laid_out_jointly(document, style, table, known, spread):

@@ -300,7 +300,7 @@ def distances_hold(whole, reading, pages):
     _, leading, least, gaps, _, height, _, _, _ = whole.flow
     for page, log in zip(pages, reading):
         sizes = tops(whole, page)
-        for at, (kind, number, _, places, _) in enumerate(log):
+        for at, (kind, number, *_) in enumerate(log):
             room = sizes[at][0] - (sizes[at - 1][1] if at else 0)
             before = log[at - 1] if at else (None, None)
             near = max(leading - sizes[at - 1][3] - sizes[at][2], least) if at else None

@@ -6,7 +6,8 @@ from galleypapers.audit import audit
 from galleypapers.errors import LabelError, TableError
 from galleypapers.fonts import SOFT
 from galleypapers.references import numbers_of
-from tests.documents import floating, font, head, item, note, para, plain_style, text
+from galleypapers.tables import table_widths
+from tests.documents import floating, head, item, note, para, plain_style, text
 from tests.helper import call, fault
 
 PATTERNS = ("hyphens", ["b1c", "f1f"], [], 1, 1)
@@ -235,7 +236,9 @@ class TestWords(AuditCase):
             self.words(told, ["a", text("b", "strong")], row(0, "a"), row(x, "b", "strong"))
         for x, told in [(12, None), (11, "words")]:
             self.words(told, [text("a", "strong"), text("b", "strong")], row(0, "a", "strong"), row(x, "b", "strong"))
-        for x, told in [(10, None), (9, "words")]:
+        for x, told in [(12, None), (8, "words")]:
+            self.words(told, [text("a", "strong"), "b"], row(0, "a", "strong"), row(x, "b"))
+        for x, told in [(10, None), (9, "words"), (11, "words")]:
             self.words(told, ["ba"], row(0, "b"), row(x, "a"))
         # The glyphs that meet may be soft hyphens.
         for x, told in [(13, None), (10, None), (9, "words")]:
@@ -292,6 +295,7 @@ class TestWords(AuditCase):
         # A piece is not parted ahead of its first character, whatever stands before.
         self.lines_end("words", ["ab", "cd"], ["ab="], ["cd"])
         self.lines_end("words", ["a-", "cd"], ["a-"], ["cd"])
+        self.lines_end("words", ["ab", "cd-"], ["ab="], ["cd-"])
         self.lines_end("words", ["ab", text("cd", "strong")], ["ab="], [row(0, "cd", "strong")])
         self.lines_end(None, ["a", "bcd"], ["ab="], ["cd"])
         self.lines_end(None, ["abc", "d"], ["ab="], ["cd"])
@@ -420,6 +424,16 @@ class TestRows(AuditCase):
         self.check(None, document, [*lines, line(6, *notes[0][1]), *notes[1:]])
         self.check("words", document, [*lines, line(6, *notes[0][1]), *notes[:0:-1]])
         self.check("words", document, [*lines, line(6, *notes[0][1]), notes[1]])
+
+    def test_notes_of_cells_with_several_notes(self):
+        document = [("table", [[[text("a"), note("x"), note("y")], [text("b")], [text("c"), note("z")]]])]
+        rows = [row(0, "a"), row(10, "1", "note"), row(16, "2", "note")]
+        style = its_style(measure=130)
+        widths = table_widths(style, document[0][1])
+        edges = [widths[0] + 20, widths[0] + widths[1] + 40]
+        rows += [row(edges[0], "b"), row(edges[1], "c"), row(edges[1] + 10, "3", "note")]
+        notes = [line(0, row(0, str(at + 1), "note"), row(16, "xyz"[at], "note")) for at in range(3)]
+        self.check(None, document, [line(0, *rows), line(6, *notes[0][1]), *notes[1:]], style=style)
 
     def test_rules_for_words_hold_in_cells(self):
         document = [("table", [[[text("abzz")], [text("c d")]]])]

@@ -171,6 +171,11 @@ class TestReading(AuditCase):
         for table in [[1, 2], [2, 1], [0, 1]]:
             self.check("words", document, first, [line(0, "b")], table=table)
 
+    def test_marks_behind_one_character(self):
+        document = [para("c", ("mark", "m"), " d")]
+        for page, told in [(1, None), (2, None), (0, "words"), (3, "words")]:
+            self.check(told, document, [line(0, "c")], [line(0, "d")], table=[page], style=with_limits(keep=1))
+
     def test_marks_look_at_their_own_block_alone(self):
         document = [para("a", ("mark", "m")), BREAK, para(("mark", "n"), "b")]
         self.check(None, document, [line(0, "a")], [line(0, "b")], table=[1, 2])

@@ -248,6 +248,7 @@ class TestLayouts(DeskCase):
         told = f"lines {sum(of_lines)} pages {total_cost(layout.matter, layout.pages)}"
         self.asked(desk, "cost", told)
         self.assertNotIn("pages 0", told)
+        self.asked(desk, "check", "right")
 
     def test_check(self):
         desk = self.desk("# A", "b c^{d}", "|e|f|", "#float 3 {g}", "- h", "#page", "i")

@@ -209,6 +209,19 @@ class TestLayout(unittest.TestCase):
         deep = plain_style(fonts={**STYLE[1], "note": font("tiny", 6, 8, 4)}, leading=10)
         self.assertEqual(self.lay([floating(0, "a" * 33 + " b")], deep).floats[0][2], ("gap", 1, 0, 0))
 
+    def test_stacks_of_lines_with_several_depths(self):
+        fonts = {**STYLE[1], "note": ("font", "tiny", {**font("tiny", 60)[2], "q": (120, 7, 4), "h": (120, 9, 0)}, {})}
+        layout = self.lay([floating(0, "q h q q h")], plain_style(fonts=fonts))
+        self.assertEqual([part[1:3] for part in layout.floats[0]], [
+            (0, 0), (7, 4), (1, 0), (9, 0), (5, 0), (7, 4), (1, 0), (7, 4), (1, 0), (9, 0)])
+
+    def test_what_is_left_on_the_last_page(self):
+        # The stretch behind the lines of the last page is 10000000 exactly: the gaps get next to nothing.
+        for stretch, left, share in [(5, 2000000, 0), (5, 2000001, 1), (3, 3333334, 0), (3, 3333335, 1)]:
+            its_style = plain_style(height=left + 7 + 2 + 3 + 7 + 2, gaps={**STYLE[9], "paragraph": (0, stretch, 0)})
+            layout = self.lay([para("a"), para("b")], its_style)
+            self.assertEqual([row[1] for row in layout.placed[0][2]], [7, 9 + 3 + share + 7])
+
     def test_blocks(self):
         document = [head(2, "a"), para("b"), ("page",), item(1, "c"), floating(3), ("table", [[[text("d")]], [[]]]),
                     ("contents",), ("index",)]
@@ -291,7 +304,7 @@ class TestLayout(unittest.TestCase):
 
     def test_random_documents(self):
         self.assertGreater(len(DOCUMENTS), 50)
-        for document, layout, tables in DOCUMENTS:
+        for _, layout, _ in DOCUMENTS:
             with_pages = iter(layout.made)
             ones = [None if block[0] == "page" else next(with_pages) for block in layout.blocks]
             self.assertEqual(layout.matter[1], vertical(layout.blocks, layout.flow))

@@ -33,12 +33,12 @@ def block(*variants, kind="para"):
     return (kind, [(cost, lines(many)) for cost, many in variants])
 
 
-def some_case(chance):
+def some_case(chance, most=5):
     """Random blocks, notes and floats, and a flow."""
     blocks = []
     notes = []
     floats = []
-    for _ in range(chance.randint(0, 5)):
+    for _ in range(chance.randint(0, most)):
         kind = chance.choice(["head", "para", "para", "para", "item", "row", "float", "page"])
         if kind == "float":
             floats.append(chance.choice([0, 5, 12]))
@@ -48,7 +48,7 @@ def some_case(chance):
         mine = []
         if chance.random() < .3:
             mine.append(len(notes))
-            notes.append(chance.choice([3, 8, 15]))
+            notes.append(chance.choice([0, 3, 8, 15]))
         variants = []
         for _ in range(1 if kind in ("head", "row") else chance.choice([1, 2, 2, 3])):
             many = chance.randint(1, 4)
@@ -57,7 +57,7 @@ def some_case(chance):
                 (chance.choice([5, 7, 7, 9]), chance.choice([0, 2, 2, 6]), tuple(mine) if at == of_note else (),
                  chance.random() < .3) for at in range(many)]))
         blocks.append((kind, variants))
-    costs = {name: chance.choice([0, 30, 150, 6000, 10000]) for name in COSTS}
+    costs = {name: chance.choice([0, 30, 150, 9999, 10000]) for name in COSTS}
     flow = flow_with(height=chance.choice([20, 35, 50]), most=chance.choice([0, 1, 1, 2]), keep=chance.choice([1, 1, 2]),
                      notes=chance.choice([10, 30]), costs=chance.choice([costs, COSTS]))
     return blocks, notes, floats, flow
@@ -74,7 +74,7 @@ def some_cases(many, seed, most):
     return found
 
 
-CASES = some_cases(300, 1, 20)
+CASES = some_cases(200, 1, 12)
 
 
 class TestChoices(unittest.TestCase):
@@ -149,8 +149,33 @@ class TestChoices(unittest.TestCase):
             else:
                 at = max(row[0] for row in slow_paper(*case))
                 self.assertEqual(fault(self, PageError, best_choices, *case).at, at)
-        self.assertGreater(len([many for many in found if many > 3]), 25)
-        self.assertGreater(len(CASES) - len(found), 30)
+        self.assertGreater(len([many for many in found if many > 3]), 15)
+        self.assertGreater(len(CASES) - len(found), 20)
+
+    def test_longer_cases(self):
+        chance = random.Random(9)
+        found = 0
+        for _ in range(150):
+            case = some_case(chance, 14)
+            rows = paper(*case)
+            self.assertTrue(paper_right(*case, rows))
+            last = [row for row in rows if row[:4] == (len(counts(case[0])), 0, 0, len(case[2]))]
+            if not last:
+                self.assertEqual(fault(self, PageError, best_choices, *case).at, max(row[0] for row in rows))
+                continue
+            cost, choice = best_choices(*case)
+            matter = matter_of(*case, choice)
+            own = cost_up_to(case[0], choice, (len(choice), 0, 0))
+            self.assertEqual((cost, cost), (last[0][4], total_cost(matter, best_pages(matter)) + own))
+            found += 1
+        self.assertGreater(found, 40)
+
+    def test_page_ends_at_nearly_forbidden_costs(self):
+        case = block((0, 1)), block((0, 1), kind="head")
+        for cost, told in [(9998, 9998), (9999, 9999)]:
+            flow = flow_with(height=9, costs={**COSTS, "head": cost})
+            self.assertEqual(self.best(*case, flow=flow)[0], told)
+        self.assertEqual(self.wrong(*case, flow=flow_with(height=9, costs={**COSTS, "head": 10000})), 0)
 
     def test_many_blocks(self):
         chance = random.Random(8)
@@ -215,7 +240,8 @@ class TestPapers(unittest.TestCase):
                      (2, 1, 0), (3, 0, 0), (-1, 0, 0), (2, 0, -1)]:
             self.assertFalse(paper_right(*case, rows + [(*node, 1, 99999)]))
         for placed in (-1, 2):
-            self.assertFalse(paper_right(*case, rows + [(0, 1, 1, placed, 99999)]))
+            for node in [(0, 1, 1), (2, 0, 0)]:
+                self.assertFalse(paper_right(*case, rows + [(*node, placed, 99999)]))
 
     def test_floats_that_are_placed_ahead_of_their_places(self):
         case = ([block((0, 1)), ("float",), block((0, 1))], [], [5], flow_with(height=10))
@@ -226,7 +252,7 @@ class TestPapers(unittest.TestCase):
     def test_wrong_papers(self):
         chance = random.Random(6)
         told = []
-        for case in CASES[:200]:
+        for case in CASES[:150]:
             rows = paper(*case)
             node = chance.choice(list(rows))
             others = [
@@ -240,8 +266,8 @@ class TestPapers(unittest.TestCase):
                 right = slow_right(*case, other)
                 self.assertIs(call(self, paper_right, *case, other), right)
                 told.append(right)
-        self.assertGreater(told.count(True), 150)
-        self.assertGreater(told.count(False), 200)
+        self.assertGreater(told.count(True), 100)
+        self.assertGreater(told.count(False), 150)
 
 
 if __name__ == "__main__":

@@ -58,10 +58,13 @@ class TestVariants(unittest.TestCase):
                 self.assertEqual(variants_of(STYLE, one, spread), [(0, one.lines, one.breaks)])
 
     def test_variants_of_chosen_ones(self):
+        # Whatever breaks were chosen, the spread is counted from the best ones.
         one = made(STYLE, ("para", [text(LONG)], "", 20, 0))
-        longer = variants_of(STYLE, one, 1)[-1]
-        chosen = Made(one.source, one.parts, longer[2], [], longer[1], [])
-        self.assertIn(longer, variants_of(STYLE, chosen, 0))
+        _, lines, breaks = variants_of(STYLE, one, 1)[-1]
+        self.assertNotEqual(breaks, one.breaks)
+        chosen = Made(one.source, one.parts, breaks, [], lines, [])
+        for spread in (0, 1, 2):
+            self.assertEqual(variants_of(STYLE, chosen, spread), variants_of(STYLE, one, spread))
 
 
 class TestLayouts(unittest.TestCase):
