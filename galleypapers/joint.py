@@ -230,23 +230,21 @@ def _reached(joint, goal):
     of the variants that begin on this page.
     """
     reached = {(_BEGINNING, 0): (0, None, ())}
-    done = {}
     # States with the least sum of their cost and what the blocks behind cost at least
-    # come first, so the cost of a state is the least one when it comes.
-    queue = [(0, _BEGINNING, 0)]
+    # come first. So, if nothing costs less than 0, their costs are the least ones then.
+    queue = [(0, _BEGINNING, 0, 0)]
     while queue:
-        _, node, placed = heappop(queue)
+        _, node, placed, told = heappop(queue)
         state = (node, placed)
+        if told > reached[state][0]:
+            continue
         if state == goal:
             return reached
-        if state in done:
-            continue
-        done[state] = True
         for later, stop, cost, chosen in joint.pages_behind(node, placed):
-            total = reached[state][0] + cost
+            total = told + cost
             if (later, stop) not in reached or total < reached[(later, stop)][0]:
                 reached[(later, stop)] = (total, state, chosen)
-                heappush(queue, (total + joint.least_behind(later), later, stop))
+                heappush(queue, (total + joint.least_behind(later), later, stop, total))
     return reached
 
 
@@ -254,7 +252,8 @@ def best_choices(blocks, notes, floats, flow):
     """Return the least cost of all choices and pages, and a choice with it, or raise PageError."""
     joint = Joint(blocks, notes, floats, flow)
     state = (joint.end, joint.floats)
-    reached = _reached(joint, state)
+    goal = None if min(list(flow[4].values())) < 0 else state
+    reached = _reached(joint, goal)
     if state not in reached:
         raise PageError(max([node[0] for node, _ in reached]))
     cost = reached[state][0]

@@ -170,6 +170,19 @@ class TestChoices(unittest.TestCase):
             found += 1
         self.assertGreater(found, 40)
 
+    def test_costs_below_0(self):
+        # They are out of range, but do not raise an error.
+        told = []
+        for at, (blocks, notes, floats, flow) in enumerate(CASES[:100]):
+            costs = {name: [-300, -20, 7][(at + place) % 3] for place, name in enumerate(COSTS)}
+            case = (blocks, notes, floats, (*flow[:4], costs, *flow[5:]))
+            rows = paper(*case)
+            self.assertEqual(rows, slow_paper(*case))
+            if rows[-1][:4] == (len(counts(blocks)), 0, 0, len(floats)):
+                self.assertEqual(best_choices(*case)[0], rows[-1][4])
+                told.append(rows[-1][4])
+        self.assertGreater(len([cost for cost in told if cost < 0]), 5)
+
     def test_page_ends_at_nearly_forbidden_costs(self):
         case = block((0, 1)), block((0, 1), kind="head")
         for cost, told in [(9998, 9998), (9999, 9999)]:
