@@ -158,7 +158,7 @@ class Walk:
         states = self.first_states(node)
         for block in range(node[0] + 1, len(joint.blocks)):
             self.reach_all((block, 0, 0), states)
-            if joint.asked[block]:
+            if joint.asked[block] or not states:
                 return
             states = self.states_behind(block, states)
         self.reach_all(joint.end, states)
